@@ -3,7 +3,7 @@
 from bitsound.heads import MOST_TIMES
 from bitsound.reckon import highest_of_bits, lowest_of_bits
 from bitsound.refusals import Misfit, NotAllowed
-from bitsound.ways import LANES, Fields, Frame, take_way
+from bitsound.ways import Fields, Frame, take_bits, take_cut, take_key, take_lanes, take_rows, take_way
 
 
 class Asked:
@@ -15,11 +15,11 @@ class Asked:
 
 
 def take_asked(fields):
-    key = fields.take(1, 0, 1)
-    bits = fields.take(1, 8, 24)
-    cut = fields.take(1, 0, bits - 1)
-    lanes = fields.take_one_of(1, LANES)
-    rows = fields.take(1, 1, 4)
+    key = take_key(fields)
+    bits = take_bits(fields)
+    cut = take_cut(fields, bits)
+    lanes = take_lanes(fields)
+    rows = take_rows(fields)
     way = take_way(fields, rows)
     if fields.place != len(fields.row):
         raise Misfit(fields.place)

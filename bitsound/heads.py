@@ -2,7 +2,7 @@
 
 from bitsound.reckon import low_first
 from bitsound.refusals import BlockFault, Misfit
-from bitsound.ways import LANES, Fields, take_way, way_bytes
+from bitsound.ways import Fields, take_bits, take_cut, take_key, take_lanes, take_rows, take_way, way_bytes
 
 FIRST_BYTE = 76
 SECOND_BYTE = 83
@@ -48,11 +48,11 @@ def sealed(block):
 def take_head(fields):
     fields.take(1, FIRST_BYTE, FIRST_BYTE)
     fields.take(1, SECOND_BYTE, SECOND_BYTE)
-    key = fields.take(1, 0, 1)
-    rows = fields.take(1, 1, 4)
-    bits = fields.take(1, 8, 24)
-    cut = fields.take(1, 0, bits - 1)
-    lanes = fields.take_one_of(1, LANES)
+    key = take_key(fields)
+    rows = take_rows(fields)
+    bits = take_bits(fields)
+    cut = take_cut(fields, bits)
+    lanes = take_lanes(fields)
     fields.take_nought(1)
     times = fields.take(4, 1, MOST_TIMES)
     head = Head(key, rows, bits, cut, lanes, times)

@@ -15,15 +15,13 @@ class Model:
     def rate(self):
         return min(SLOWNESS, (self.seen + 2).bit_length())
 
-    def target(self, i, symbol):
-        return i if i <= symbol else ALL_PLACES - (SYMBOLS - i)
-
     def see(self, symbol):
         rate = self.rate()
         old = self.begins
         weight = (1 << rate) - 1
-        moved = [(old[i] * weight + self.target(i, symbol)) >> rate for i in range(1, SYMBOLS)]
-        self.begins = [0] + moved + [ALL_PLACES]
+        below = [(old[i] * weight + i) >> rate for i in range(1, symbol + 1)]
+        above = [(old[i] * weight + ALL_PLACES - (SYMBOLS - i)) >> rate for i in range(symbol + 1, SYMBOLS)]
+        self.begins = [0] + below + above + [ALL_PLACES]
         self.seen = min(MOST_SEEN, self.seen + 1)
 
     def places(self, symbol):

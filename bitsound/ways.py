@@ -75,6 +75,26 @@ class Fields:
             self.take(width, 0, 0)
 
 
+def take_key(fields):
+    return fields.take(1, 0, 1)
+
+
+def take_bits(fields):
+    return fields.take(1, 8, 24)
+
+
+def take_cut(fields, bits):
+    return fields.take(1, 0, bits - 1)
+
+
+def take_lanes(fields):
+    return fields.take_one_of(1, LANES)
+
+
+def take_rows(fields):
+    return fields.take(1, 1, 4)
+
+
 def take_stage(fields):
     taps = fields.take(2, 1, MOST_TAPS)
     gain = fields.take(2, 1, MOST_GAIN)
@@ -101,25 +121,24 @@ def stage_told(stage):
     return [stage.taps, stage.gain, stage.kind, stage.scale]
 
 
-def way_told(way):
-    told = []
-    for row_way in way.row_ways:
-        told.append(row_way.fixed)
-        told.append(len(row_way.stages))
-        for stage in row_way.stages:
-            told.extend(stage_told(stage))
-    return told + way.joints
-
-
 def stage_bytes(stage):
     return low_first(stage.taps, 2) + low_first(stage.gain, 2) + [stage.kind, stage.scale, 0, 0]
 
 
-def way_bytes(way):
-    row = []
+# Told or as bytes, only the stages look different.
+def way_laid(way, lay_stage):
+    laid = []
     for row_way in way.row_ways:
-        row.append(row_way.fixed)
-        row.append(len(row_way.stages))
+        laid.append(row_way.fixed)
+        laid.append(len(row_way.stages))
         for stage in row_way.stages:
-            row.extend(stage_bytes(stage))
-    return row + way.joints
+            laid.extend(lay_stage(stage))
+    return laid + way.joints
+
+
+def way_told(way):
+    return way_laid(way, stage_told)
+
+
+def way_bytes(way):
+    return way_laid(way, stage_bytes)
